@@ -1,0 +1,1 @@
+"""Oddcrown: games of chance that go on for ever."""

@@ -1,0 +1,50 @@
+"""Numbers: tuples (n, d) of whole numbers in lowest terms (point 1)."""
+
+from math import gcd
+
+ZERO = (0, 1)
+ONE = (1, 1)
+SHORT_BELOW = 1000
+
+
+def is_whole(value):
+    """Return True if the value is a whole number; True and False are none."""
+    return isinstance(value, int) and not isinstance(value, bool)
+
+
+def is_position(value, many):
+    """Return True if the value is a whole number from 0 to `many` less 1."""
+    return is_whole(value) and 0 <= value < many
+
+
+def is_number(value):
+    """Return True if the value is a number of any size."""
+    if not isinstance(value, tuple) or len(value) != 2:
+        return False
+    n, d = value
+    return is_whole(n) and is_whole(d) and d >= 1 and gcd(n, d) == 1
+
+
+def is_short(value):
+    """Return True if the value is a short number."""
+    return is_number(value) and abs(value[0]) < SHORT_BELOW and value[1] < SHORT_BELOW
+
+
+def is_above_zero(number):
+    """Return True if the number is greater than 0."""
+    return number[0] > 0
+
+
+def sum_of(numbers):
+    """Return the sum of the numbers."""
+    total = ZERO
+    for number in numbers:
+        total = _plus(total, number)
+    return total
+
+
+def _plus(one, other):
+    n = one[0] * other[1] + other[0] * one[1]
+    d = one[1] * other[1]
+    common = gcd(n, d)
+    return (n // common, d // common)

@@ -1,0 +1,80 @@
+"""The form of the package: what LANGUAGE.md asks for and a test can see, and no clock, chance or files."""
+
+import ast
+import pathlib
+import unittest
+import warnings
+
+FOLDER = pathlib.Path(__file__).resolve().parent.parent / "oddcrown"
+LIBRARY = {"math": {"gcd", "lcm", "isqrt", "comb", "perm", "factorial"},
+           "heapq": {"heappush", "heappop", "heapify", "heapreplace", "heappushpop"},
+           "itertools": {"product", "combinations", "permutations", "chain", "accumulate", "pairwise", "islice",
+                         "zip_longest"},
+           "collections": {"defaultdict", "deque"}}
+BARRED_NAMES = {"open", "input", "print", "eval", "exec", "compile", "globals", "locals", "vars", "float", "id", "hash",
+                "chr", "round"}
+
+
+def files():
+    return sorted(FOLDER.rglob("*.py"))
+
+
+def nodes():
+    for path in files():
+        for node in ast.walk(ast.parse(path.read_text())):
+            yield path.name, node
+
+
+class FormTest(unittest.TestCase):
+    def test_the_folder_holds_files_of_the_program_alone(self):
+        found = [path for path in FOLDER.rglob("*") if "__pycache__" not in path.parts]
+        self.assertEqual(sorted(found), files())
+        self.assertIn(FOLDER / "__init__.py", files())
+
+    def test_sizes_and_characters(self):
+        for path in files():
+            text = path.read_text(encoding="ascii")
+            self.assertLessEqual(len(text.splitlines()), 399, path)
+            for number, line in enumerate(text.split("\n"), 1):
+                self.assertLessEqual(len(line), 120, (path, number))
+                self.assertTrue(line.isprintable(), (path, number))
+
+    def test_sizes_of_functions(self):
+        for name, node in nodes():
+            if isinstance(node, ast.FunctionDef):
+                self.assertLessEqual(node.end_lineno - node.lineno + 1, 40, (name, node.name))
+
+    def test_imports_come_from_the_package_and_the_told_library_alone(self):
+        for name, node in nodes():
+            self.assertNotIsInstance(node, ast.Import, name)
+            if isinstance(node, ast.ImportFrom):
+                self.assertEqual(node.level, 0, name)
+                imported = {alias.name for alias in node.names}
+                if node.module.split(".")[0] == "oddcrown":
+                    defined = ast.parse((FOLDER.parent / (node.module.replace(".", "/") + ".py")).read_text()).body
+                    known = {part.name for part in defined if isinstance(part, (ast.FunctionDef, ast.ClassDef))}
+                    known |= {part.targets[0].id for part in defined if isinstance(part, ast.Assign)}
+                    self.assertLessEqual(imported, known, name)
+                else:
+                    self.assertLessEqual(imported, LIBRARY[node.module], name)
+
+    def test_no_names_that_reach_out_of_the_program(self):
+        for name, node in nodes():
+            if isinstance(node, ast.Name):
+                self.assertNotIn(node.id, BARRED_NAMES, (name, node.lineno))
+
+    def test_no_floats_and_no_division(self):
+        for name, node in nodes():
+            self.assertNotIsInstance(node, ast.Div, name)
+            if isinstance(node, ast.Constant):
+                self.assertNotIsInstance(node.value, float, name)
+
+    def test_python_warns_of_no_line(self):
+        with warnings.catch_warnings():
+            warnings.simplefilter("error")
+            for path in files():
+                compile(path.read_text(), str(path), "exec")
+
+
+if __name__ == "__main__":
+    unittest.main()
