@@ -35,6 +35,17 @@ def is_above_zero(number):
     return number[0] > 0
 
 
+def is_less(one, other):
+    """Return True if the one number is less than the other one."""
+    return one[0] * other[1] < other[0] * one[1]
+
+
+def ratio(n, d):
+    """Return the number that n divided by d is; d is at least 1."""
+    common = gcd(n, d)
+    return (n // common, d // common)
+
+
 def sum_of(numbers):
     """Return the sum of the numbers."""
     total = ZERO
@@ -44,7 +55,24 @@ def sum_of(numbers):
 
 
 def _plus(one, other):
-    n = one[0] * other[1] + other[0] * one[1]
-    d = one[1] * other[1]
-    common = gcd(n, d)
-    return (n // common, d // common)
+    return ratio(one[0] * other[1] + other[0] * one[1], one[1] * other[1])
+
+
+def product_of(one, other):
+    """Return the one number times the other one."""
+    return ratio(one[0] * other[0], one[1] * other[1])
+
+
+def inverse_of(number):
+    """Return 1 divided by the number, which is greater than 0."""
+    return (number[1], number[0])
+
+
+def rest_to_one(number):
+    """Return 1 less the number."""
+    return (number[1] - number[0], number[1])
+
+
+def mean_of(branches, numbers):
+    """Return the sum of the chances of the branches times the numbers at their places."""
+    return sum_of([product_of(chance, numbers[target]) for chance, target in branches])

@@ -1,6 +1,7 @@
 """The form of the package: what LANGUAGE.md asks for and a test can see, and no clock, chance or files."""
 
 import ast
+import builtins
 import pathlib
 import unittest
 import warnings
@@ -57,6 +58,21 @@ class FormTest(unittest.TestCase):
                     self.assertLessEqual(imported, known, name)
                 else:
                     self.assertLessEqual(imported, LIBRARY[node.module], name)
+
+    def test_no_name_of_an_import_or_a_builtin_means_something_else(self):
+        for path in files():
+            tree = ast.parse(path.read_text())
+            imported = {alias.name for part in tree.body if isinstance(part, ast.ImportFrom) for alias in part.names}
+            for node in ast.walk(tree):
+                bound = None
+                if isinstance(node, ast.Name) and not isinstance(node.ctx, ast.Load):
+                    bound = node.id
+                elif isinstance(node, ast.arg):
+                    bound = node.arg
+                elif isinstance(node, (ast.FunctionDef, ast.ClassDef)) and node.name != "__init__":
+                    bound = node.name
+                self.assertNotIn(bound, imported, (path.name, bound))
+                self.assertFalse(bound is not None and hasattr(builtins, bound), (path.name, bound))
 
     def test_no_names_that_reach_out_of_the_program(self):
         for name, node in nodes():
