@@ -13,7 +13,7 @@ def greatest_chances(game, side):
     strategy of the side with which they come about. The other side has no places in the game.
     """
     strategy, won = _winning_returns(game, side)
-    every = bits_of(range(len(game)))
+    every = bits_of(list(range(len(game))))
     hopeful, nearing = attracted(game, ways_of(game), every, side=side, goal=won)
     for place, number in nearing.items():
         strategy[place] = number

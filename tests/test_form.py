@@ -12,12 +12,35 @@ LIBRARY = {"math": {"gcd", "lcm", "isqrt", "comb", "perm", "factorial"},
            "itertools": {"product", "combinations", "permutations", "chain", "accumulate", "pairwise", "islice",
                          "zip_longest"},
            "collections": {"defaultdict", "deque"}}
+# What is walked on the spot, and the calls that may walk it (rule L23).
+WALKED = {"range", "zip", "enumerate", "reversed"}
+WALKED_METHODS = {"items", "keys", "values"}
+WALKERS = {"list", "tuple", "dict", "sorted", "sum", "any", "all", "enumerate", "zip", "min", "max"}
 BARRED_NAMES = {"open", "input", "print", "eval", "exec", "compile", "globals", "locals", "vars", "float", "id", "hash",
                 "chr", "round"}
 
 
 def files():
     return sorted(FOLDER.rglob("*.py"))
+
+
+def is_walked(node):
+    """Whether the node is a call of something that is walked on the spot, such as range(..)."""
+    if not isinstance(node, ast.Call):
+        return False
+    if isinstance(node.func, ast.Name):
+        return node.func.id in WALKED
+    return isinstance(node.func, ast.Attribute) and node.func.attr in WALKED_METHODS
+
+
+def walks(node, part):
+    """Whether the node walks this part of it on the spot."""
+    if isinstance(node, (ast.For, ast.comprehension)):
+        return node.iter is part
+    if isinstance(node, ast.Call) and isinstance(node.func, ast.Name):
+        first = node.args[:1] if node.func.id != "zip" else node.args
+        return node.func.id in WALKERS and any(part is told for told in first)
+    return False
 
 
 def nodes():
@@ -78,6 +101,21 @@ class FormTest(unittest.TestCase):
         for name, node in nodes():
             if isinstance(node, ast.Name):
                 self.assertNotIn(node.id, BARRED_NAMES, (name, node.lineno))
+
+    def test_what_is_walked_is_walked_on_the_spot(self):
+        walked = 0
+        for name, node in nodes():
+            for part in ast.iter_child_nodes(node):
+                if is_walked(part):
+                    walked += 1
+                    self.assertTrue(walks(node, part), (name, part.lineno))
+        self.assertGreater(walked, 40)
+
+    def test_a_range_that_is_handed_on_is_found(self):
+        for text in ["bits_of(range(len(game)))", "every = range(3)", "[*zip(game, game)]", "return_to(told.items())"]:
+            found = [(node, part) for node in ast.walk(ast.parse(text)) for part in ast.iter_child_nodes(node)
+                     if is_walked(part)]
+            self.assertEqual([walks(node, part) for node, part in found], [False], text)
 
     def test_no_floats_and_no_division(self):
         for name, node in nodes():
