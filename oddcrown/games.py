@@ -88,6 +88,11 @@ def is_chain(game):
     return len(places_of(game, "draw")) == len(game)
 
 
+def copied(game):
+    """Return the same game anew."""
+    return [(mark, kind, list(branches)) for mark, kind, branches in game]
+
+
 def with_strategy(game, side, strategy):
     """Return the game with the strategy of the side put in."""
     return [_place_with(place, side, number) for place, number in zip(game, strategy)]

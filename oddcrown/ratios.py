@@ -58,6 +58,11 @@ def _plus(one, other):
     return ratio(one[0] * other[1] + other[0] * one[1], one[1] * other[1])
 
 
+def difference_of(one, other):
+    """Return the one number less the other one."""
+    return _plus(one, (-other[0], other[1]))
+
+
 def product_of(one, other):
     """Return the one number times the other one."""
     return ratio(one[0] * other[0], one[1] * other[1])
@@ -71,6 +76,24 @@ def inverse_of(number):
 def rest_to_one(number):
     """Return 1 less the number."""
     return (number[1] - number[0], number[1])
+
+
+def greatest_of(numbers):
+    """Return the greatest one of the numbers, of which there is at least one."""
+    best, *others = numbers
+    for number in others:
+        if is_less(best, number):
+            best = number
+    return best
+
+
+def least_of(numbers):
+    """Return the least one of the numbers, of which there is at least one."""
+    best, *others = numbers
+    for number in others:
+        if is_less(number, best):
+            best = number
+    return best
 
 
 def mean_of(branches, numbers):
