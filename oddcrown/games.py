@@ -27,12 +27,13 @@ def _check_place(place, many):
     if not 1 <= len(branches) <= MOST_BRANCHES:
         raise BadSize()
     if kind == "draw":
-        _check_draw(branches, many)
+        check_draw(branches, many)
     else:
         _check_targets(branches, many)
 
 
-def _check_draw(branches, many):
+def check_draw(branches, many):
+    """Raise the first error that is due for the branches of a draw in a game of so many places."""
     for chance, target in branches:
         if not is_short(chance):
             raise BadNumber()
