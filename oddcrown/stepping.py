@@ -11,8 +11,8 @@ def common_of(game):
     common = 1
     for _, kind, branches in game:
         if kind == "draw":
-            for (_, d), _ in branches:
-                common = lcm(common, d)
+            for chance, _ in branches:
+                common = lcm(common, chance[1])
     return common
 
 

@@ -2,7 +2,10 @@
 
 import ast
 import builtins
+import io
 import pathlib
+import re
+import tokenize
 import unittest
 import warnings
 
@@ -12,6 +15,10 @@ LIBRARY = {"math": {"gcd", "lcm", "isqrt", "comb", "perm", "factorial"},
            "itertools": {"product", "combinations", "permutations", "chain", "accumulate", "pairwise", "islice",
                          "zip_longest"},
            "collections": {"defaultdict", "deque"}}
+BARRED_WORDS = {"register", "mro", "elements", "open", "input", "law", "version_info", "add_note", "type", "typing",
+                "typing_extensions", "enum", "Enum", "IntEnum", "StrEnum", "Flag", "IntFlag", "Generic", "Protocol",
+                "ABC", "ABCMeta", "namedtuple", "NamedTuple", "TypedDict", "TYPE_CHECKING", "abstractmethod", "sys",
+                "os", "exec", "eval", "vars", "id", "help", "exit", "quit", "super", "globals", "locals", "dir"}
 # What is walked on the spot, and the calls that may walk it (rule L23).
 WALKED = {"range", "zip", "enumerate", "reversed"}
 WALKED_METHODS = {"items", "keys", "values"}
@@ -102,6 +109,23 @@ class FormTest(unittest.TestCase):
         for name, node in nodes():
             if isinstance(node, ast.Name):
                 self.assertNotIn(node.id, BARRED_NAMES, (name, node.lineno))
+
+    def test_no_words_that_are_barred(self):
+        for path in files():
+            for part in tokenize.generate_tokens(io.StringIO(path.read_text()).readline):
+                if part.type == tokenize.NAME:
+                    self.assertNotIn(part.string, BARRED_WORDS, (path.name, part.start))
+                if part.type == tokenize.STRING and not part.string.startswith('"""'):
+                    self.assertNotIn("%", part.string, (path.name, part.start))
+                    self.assertFalse(set(re.findall(r"\w+", part.string)) & BARRED_WORDS, (path.name, part.start))
+
+    def test_methods_have_no_names_of_methods_of_builtin_values(self):
+        taken = {name for kind in (str, list, dict, set, bytes, int) for name in dir(kind)} - {"__init__", "__len__"}
+        for name, node in nodes():
+            if isinstance(node, ast.ClassDef):
+                for part in node.body:
+                    if isinstance(part, ast.FunctionDef):
+                        self.assertNotIn(part.name, taken, (name, part.lineno))
 
     def test_what_is_walked_is_walked_on_the_spot(self):
         walked = 0

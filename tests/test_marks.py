@@ -221,7 +221,7 @@ class MatterTest(oracles.CrownTestCase):
 
     def test_against_all_pairs_of_strategies(self):
         between = 0
-        for game in GAMES[:70]:
+        for game in GAMES[:32]:
             for place in range(len(game)):
                 searched = [oracles.Search(marked(game, marks_in(game)[:place] + [mark] + marks_in(game)[place + 1:]))
                             for mark in range(10)]
@@ -232,7 +232,7 @@ class MatterTest(oracles.CrownTestCase):
                     between += len(set(found)) > 1
                 present = searched[game[place][0]].values
                 self.assertIs(mark_matters(game, place), any(search.values != present for search in searched))
-        self.assertGreater(between, 150)
+        self.assertGreater(between, 60)
 
     def test_marks_that_matter_at_another_place(self):
         self.assertEqual([mark_matters(ELSEWHERE, place) for place in range(4)], [True, True, False, False])
